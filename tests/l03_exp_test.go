@@ -551,3 +551,27 @@ func TestP13ExpsOfAnyDepth(t *testing.T) {
 	}
 	checkExp(t, "a long chain", impl.AndAll(impl.Conj(chain)), lit(null))
 }
+
+func TestP13SameExpOfSharedLists(t *testing.T) {
+	shared, other := col(3), col(3)
+	for range 100 {
+		shared, other = op("and", shared, shared), op("and", other, other)
+	}
+	if !impl.SameExp(shared, other) || impl.SameExp(shared, op("and", other, other)) {
+		t.Error("a list at many places")
+	}
+	for _, length := range []int{1, 2, 3} {
+		ring, twice := ringExp(length), ringExp(2*length)
+		if !impl.SameExp(ring, ring) || !impl.SameExp(ring, twice) || impl.SameExp(ring, below(50, col(0))) || impl.SameExp(ring, isNull(ring)) {
+			t.Error("a list within itself")
+		}
+	}
+}
+
+// ringExp is a not of a not and so on without end: the last of so many has the first for its kid.
+func ringExp(length int) impl.Exp {
+	last := make([]impl.Exp, 1)
+	first := below(length-1, not(last...))
+	last[0] = first
+	return first
+}
