@@ -552,7 +552,7 @@ func TestP13ExpsOfAnyDepth(t *testing.T) {
 	checkExp(t, "a long chain", impl.AndAll(impl.Conj(chain)), lit(null))
 }
 
-func TestP13SameExpOfSharedLists(t *testing.T) {
+func TestP13ExpsOfSharedLists(t *testing.T) {
 	shared, other := col(3), col(3)
 	for range 100 {
 		shared, other = op("and", shared, shared), op("and", other, other)
@@ -565,6 +565,13 @@ func TestP13SameExpOfSharedLists(t *testing.T) {
 		if !impl.SameExp(ring, ring) || !impl.SameExp(ring, twice) || impl.SameExp(ring, below(50, col(0))) || impl.SameExp(ring, isNull(ring)) {
 			t.Error("a list within itself")
 		}
+		if len(impl.ColsOf(ring)) != 0 || !impl.SameExp(impl.Shift(ring, 1), ring) || !impl.SameExp(impl.Put(ring, columns(3)), ring) || !impl.SameExp(impl.Conj(ring)[0], ring) {
+			t.Error("a list within itself, copied")
+		}
+	}
+	moved := impl.Shift(shared, 1)
+	if !slices.Equal(impl.ColsOf(shared), []int{3}) || !slices.Equal(impl.ColsOf(moved), []int{4}) || !impl.SameExp(impl.Shift(moved, -1), shared) || !impl.SameExp(impl.Put(shared, columns(12)), shared) {
+		t.Error("a list at many places, copied")
 	}
 }
 
