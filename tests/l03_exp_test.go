@@ -575,6 +575,46 @@ func TestP13ExpsOfSharedLists(t *testing.T) {
 	}
 }
 
+// ringOf is an and of these two, of which the first one, the second one or both are itself.
+func ringOf(left impl.Exp, right impl.Exp, places ...int) impl.Exp {
+	list := []impl.Exp{left, right}
+	e := impl.Exp{Kind: impl.ExpOp, Op: "and", Kids: list}
+	for _, i := range places {
+		list[i] = e
+	}
+	return e
+}
+
+func TestP13ChainsWithoutEnd(t *testing.T) {
+	shared := col(3)
+	for range 100 {
+		shared = op("and", shared, shared)
+	}
+	endless, deep := ringExp(2), below(10, shared)
+	for _, x := range []struct {
+		e    impl.Exp
+		part impl.Exp
+	}{
+		{shared, col(3)}, {ringOf(col(0), col(3), 0), col(3)}, {ringOf(col(3), col(0), 1), col(3)}, {ringOf(endless, col(0), 1), endless}, {ringOf(col(0), endless, 0), endless}, {ringOf(deep, col(0), 1), deep}, {ringOf(ringOf(col(3), col(0), 1), col(0), 1), col(3)},
+	} {
+		parts := impl.Conj(x.e)
+		if len(parts) < 1<<impl.MaxDepth || slices.ContainsFunc(parts, func(e impl.Exp) bool { return !impl.SameExp(e, x.part) }) {
+			t.Errorf("%d parts", len(parts))
+		}
+		if impl.ExpOk(x.e) || impl.ExpText(x.e) != "" || !impl.SameExp(impl.AndAll(parts), lit(null)) {
+			t.Error("a chain without end is right")
+		}
+	}
+	impl.Conj(ringOf(col(0), col(0), 0, 1))
+	if tree := beside(impl.MaxDepth, "and", col(3)); len(impl.Conj(tree)) != impl.MaxDepth+1 {
+		t.Error("the deepest chain that is right")
+	}
+	full := fullTree()
+	if len(impl.Conj(full)) != 1<<impl.MaxDepth || !impl.ExpOk(full) {
+		t.Error("the greatest chain that is right")
+	}
+}
+
 // ringExp is a not of a not and so on without end: the last of so many has the first for its kid.
 func ringExp(length int) impl.Exp {
 	last := make([]impl.Exp, 1)

@@ -923,6 +923,31 @@ func TestP13PlansOfSharedLists(t *testing.T) {
 	}
 }
 
+// Unions of two that are told down to 20 below have 9 bytes each. Of three there would be more than can be told.
+func TestP13TextsOfPlansWithoutEnd(t *testing.T) {
+	shared := table("a")
+	for range 100 {
+		shared = union(shared, shared)
+	}
+	list := make([]impl.Plan, 2)
+	ring := union(list...)
+	list[0], list[1] = ring, ring
+	for _, p := range []impl.Plan{shared, ring} {
+		if s := impl.PlanText(p); len(s) != 9*(1<<21-1) || !strings.HasPrefix(s, strings.Repeat("union(", 21)+", ), union(, )), union(union(, ), ") {
+			t.Errorf("%d bytes, %.200s", len(s), s)
+		}
+	}
+	list = make([]impl.Plan, 5)
+	wider := union(list...)
+	for i := range list {
+		list[i] = wider
+	}
+	wider.Kind = impl.PlJoin
+	if s := impl.PlanText(wider); !strings.HasPrefix(s, "join(c0, "+strings.Repeat("union(", 20)+", , , , ), union(, , , , )") {
+		t.Errorf("%d bytes, %.200s", len(s), s)
+	}
+}
+
 // checkWidthAlone asks of a plan that is far too deep, without its text, which would have no end.
 func checkWidthAlone(t *testing.T, p impl.Plan) {
 	t.Helper()
