@@ -265,9 +265,12 @@ func TestP12OtherLines(t *testing.T) {
 		list = append(list, lineCase{line, "what"})
 	}
 	for _, word := range []string{"table", "view", "drop", "add", "del", "ask", "plan", "show", "crash"} {
-		for _, line := range []string{word, word + " ", " " + word, strings.ToUpper(word)} {
+		for _, line := range []string{word, " " + word, " " + word + " ", strings.ToUpper(word), strings.ToUpper(word) + " "} {
 			list = append(list, lineCase{line, "what"})
 		}
+	}
+	for _, word := range []string{"table", "view", "add", "del", "show", "crash"} {
+		list = append(list, lineCase{word + " ", "what"})
 	}
 	for _, word := range []string{"views", "sync"} {
 		for _, line := range []string{word + " ", " " + word, word + "  ", word + " t", word + " now", word + " " + word, strings.ToUpper(word)} {
@@ -285,13 +288,31 @@ func TestP12OtherLines(t *testing.T) {
 func TestP12Tables(t *testing.T) {
 	checkLines(t, []lineCase{
 		{"table n x", "ok"}, {"table n x y z", "ok"}, {"table abcdefghij abcdefghij", "ok"}, {"table n n", "ok"}, {"table select from where", "ok"}, {"table n " + numberedCols("c", impl.MaxWidth), "ok"}, {"table n " + numberedCols("c", impl.MaxWidth+1), "bad"},
-		{"table n", "what"}, {"table n ", "what"}, {"table  n x", "what"}, {"table n  x", "what"}, {"table n x ", "what"}, {"table n x  y", "what"}, {"table   ", "what"},
+		{"table n", "what"}, {"table t", "what"}, {"table ", "what"},
 		{"table t x", "name"}, {"table v x", "name"}, {"table e k", "name"}, {"table n x x", "bad"}, {"table n x y x", "bad"}, {"table t x x", "bad"}, {"table n X", "bad"}, {"table n x 1", "bad"}, {"table n abcdefghijk", "bad"}, {"table n x,y", "bad"}, {"table n x\ty", "bad"}, {"table n \xff", "bad"}, {"table n x \u00e9", "bad"},
 	})
-	// A Name that is none makes it another line: so the given test of the stage has it of A.
+	// A Name that is none, but for the empty one, makes it another line: so the given test of the stage has it of A.
 	for _, name := range []string{"A", "1", "1n", "nN", "abcdefghijk", "n.x", "n,", "_", "\xff", "\u00e9", "'n'", "*"} {
-		checkLines(t, []lineCase{{"table " + name + " x", "what"}, {"table " + name + " x x", "what"}, {"table " + name, "what"}})
+		checkLines(t, []lineCase{{"table " + name + " x", "what"}, {"table " + name + " x x", "what"}, {"table " + name, "what"}, {"table " + name + " ", "what"}})
 	}
+}
+
+// The empty text is a name that is none: it is for Do to tell wherever a line with it is done.
+func TestP12EmptyNames(t *testing.T) {
+	checkLines(t, []lineCase{
+		{"table n ", "bad"}, {"table n  ", "bad"}, {"table n  x", "bad"}, {"table n x ", "bad"}, {"table n x  y", "bad"}, {"table n x   y", "bad"}, {"table t ", "bad"}, {"table t x ", "bad"}, {"table  x", "bad"}, {"table  n x", "bad"}, {"table  ", "bad"}, {"table   ", "bad"},
+		{"view  select x from t", "bad"}, {"view  n select x from t", "bad"}, {"view  select", "bad"}, {"view  ", "bad"}, {"view   ", "bad"}, {"drop ", "bad"},
+		{"add  1", "bad"}, {"add  1,'a'", "bad"}, {"del  1", "bad"}, {"del  1,'a'", "bad"}, {"add  ' '", "bad"}, {"add  x", "what"}, {"add  t 1,'a'", "what"}, {"del  ", "what"}, {"add  ", "what"}, {"add   1", "what"}, {"show ", "what"},
+	})
+}
+
+// The empty text is no question: what refuses a question refuses it, and what comes ahead of that still does.
+func TestP12EmptyQuestions(t *testing.T) {
+	checkLines(t, []lineCase{
+		{"ask ", "query"}, {"ask  ", "query"}, {"plan ", "query"}, {"plan  ", "query"}, {"view n ", "query"}, {"view n  ", "query"}, {"view v ", "name"}, {"view t ", "name"}, {"view A ", "bad"},
+		{"ask", "what"}, {"plan", "what"}, {"view n", "what"}, {"view v", "what"},
+	})
+	checkDesk(t, "ask \nplan \nview w \nviews\ncrash 999999\n", "query", "query", "query", "-", "0")
 }
 
 // A name that is none is for Do to tell, but behind table and show.
@@ -308,7 +329,6 @@ func TestP12Views(t *testing.T) {
 	query := func(size int) string { return "select * from t" + strings.Repeat(" ", size-len("select * from t")) }
 	checkLines(t, []lineCase{
 		{"view n select x from t", "ok"}, {"view n  select x from t ", "ok"}, {"view n select k from e union all select x from t", "ok"}, {"view n select x from t where y = 'a, b'", "ok"}, {"view n " + query(impl.MaxQuery), "ok"}, {"view n " + query(impl.MaxQuery+1), "bad"}, {"view v " + query(impl.MaxQuery+1), "bad"},
-		{"view n", "what"}, {"view n ", "what"}, {"view  n select x from t", "what"}, {"view  ", "what"}, {"view n  ", "query"},
 		{"view v select x from t", "name"}, {"view t select x from t", "name"}, {"view t select", "name"}, {"view n select", "query"}, {"view n x", "query"}, {"view n select q from t", "query"}, {"view n select * from n", "query"}, {"view n select * from v", "query"}, {"view n select x from t where y = 'a", "query"}, {"view n select x, k from t, e union all select k from e", "query"}, {"view n \xff", "query"}, {"view n " + unions(10, "select k from e"), "query"},
 	})
 	checkDesk(t, "views\ntable t x\nviews\nview w  select x  from t \nviews\nview v select * from t\nviews\ndrop w\nviews\ndrop v\nviews\n", "-", "ok", "-", "ok", "w= select x  from t ", "ok", "v=select * from t;w= select x  from t ", "ok", "v=select * from t", "ok", "-")
@@ -324,7 +344,7 @@ func TestP12RowsAddedAndGone(t *testing.T) {
 		{"add t 1,'a'", "ok"}, {"add t null,null", "ok"}, {"add t 'a b','  '", "ok"}, {"add t true,false", "ok"}, {"del t 1,'a'", "ok"}, {"del t 2,'b'", "ok"}, {"del t 3,null", "ok"}, {"add e 1", "ok"}, {"add e ' , '", "ok"}, {"add e '" + longest + "'", "ok"},
 		{"add t 1", "rows"}, {"add t 1,2,3", "rows"}, {"add e 1,2", "rows"}, {"del t 1", "rows"}, {"del t 9,'a'", "rows"}, {"del t 1,'b'", "rows"}, {"del t 1,a", "what"}, {"del e 1", "rows"}, {"del t null,3", "rows"},
 		{"add n 1", "name"}, {"add n 1,'a'", "name"}, {"del n 1", "name"}, {"add v 1,1", "name"}, {"del v 1,1", "name"}, {"del w 'b'", "name"},
-		{"add t", "what"}, {"add t ", "what"}, {"add t  1,'a'", "what"}, {"add  t 1,'a'", "what"}, {"add t 1,'a' ", "what"}, {"add t 1, 'a'", "what"}, {"add t 1 ,'a'", "what"}, {"add t 1,", "what"}, {"add t ,1", "what"}, {"add t 1,,'a'", "what"}, {"add t 1 'a'", "what"}, {"add t 1,x", "what"}, {"add t 1,'a", "what"}, {"add t 01,'a'", "what"}, {"add t -0,'a'", "what"}, {"add e '" + longest + "x'", "what"}, {"add n x", "what"}, {"del t", "what"}, {"del t ", "what"}, {"del n 'a", "what"},
+		{"add t", "what"}, {"add t ", "what"}, {"add t  1,'a'", "what"}, {"add t 1,'a' ", "what"}, {"add t 1, 'a'", "what"}, {"add t 1 ,'a'", "what"}, {"add t 1,", "what"}, {"add t ,1", "what"}, {"add t 1,,'a'", "what"}, {"add t 1 'a'", "what"}, {"add t 1,x", "what"}, {"add t 1,'a", "what"}, {"add t 01,'a'", "what"}, {"add t -0,'a'", "what"}, {"add e '" + longest + "x'", "what"}, {"add n x", "what"}, {"del t", "what"}, {"del t ", "what"}, {"del n 'a", "what"},
 		{"add e 9223372036854775807", "ok"}, {"add e -9223372036854775808", "ok"}, {"add e 9223372036854775808", "what"}, {"add e -9223372036854775809", "what"}, {"add e " + rowWords(wide(impl.MaxWidth, 1)), "rows"}, {"add e " + rowWords(wide(impl.MaxWidth+1, 1)), "bad"}, {"add n " + rowWords(wide(impl.MaxWidth+1, 1)), "bad"},
 	})
 	checkDesk(t, "table t x\nadd t 9223372036854775807\nadd t -9223372036854775808\nadd t 'a,;''\xff\x00 b'\nadd t 'a,;''\xff\x00 b'\nshow t\nask select x + 1 from t\ndel t 'a,;''\xff\x00 b'\ndel t 'a,;''\xff\x00 b'\ndel t 'a,;''\xff\x00 b'\nshow t\ndel t 9223372036854775807\ndel t -9223372036854775808\nshow t\ndel t -9223372036854775808\n",
@@ -334,9 +354,9 @@ func TestP12RowsAddedAndGone(t *testing.T) {
 func TestP12Questions(t *testing.T) {
 	checkLines(t, []lineCase{
 		{"ask select * from t", "x,y;" + deskRows}, {"ask  select * from t ", "x,y;" + deskRows}, {"ask select x, count(*) from t group by x", "x,count;" + deskOfV}, {"ask select y, count(*), sum(x) from t group by y", "y,count,sum;1x null,1,3;1x 'a',1,1;1x 'b',2,4;"}, {"ask select k from e", "k;"}, {"ask select x + 1, y, x from t where x = 3", "c0,y,x;1x 4,null,3;"}, {"ask select y from t where x = 2", "y;2x 'b';"}, {"ask select ',;''' from t where x = 3", "c0;1x ',;''';"}, {"ask select t.x from t, e", "x;"},
-		{"ask", "what"}, {"ask ", "what"}, {"ask  ", "query"}, {"ask select", "query"}, {"ask select q from t", "query"}, {"ask select * from v", "query"}, {"ask select * from n", "query"}, {"ask select x from t, t", "query"}, {"ask \xff", "query"}, {"ask " + unions(10, "select k from e"), "query"}, {"ask " + strings.Repeat("x", impl.MaxQuery+1), "query"},
+		{"ask select", "query"}, {"ask select q from t", "query"}, {"ask select * from v", "query"}, {"ask select * from n", "query"}, {"ask select x from t, t", "query"}, {"ask \xff", "query"}, {"ask " + unions(10, "select k from e"), "query"}, {"ask " + strings.Repeat("x", impl.MaxQuery+1), "query"},
 		{"plan select * from t", "t"}, {"plan select x, count(*) from t group by x", "v"}, {"plan select y from t where x = 2", "w"}, {"plan select x from t where x = 2", "project([c0], filter((c0 = 2), t))"}, {"plan select distinct y from t where x = 2", "distinct(w)"}, {"plan  select k from e", "project([c0], e)"}, {"plan select x from t where y = 'a, b'", "project([c0], filter((c1 = 'a, b'), t))"},
-		{"plan", "what"}, {"plan ", "what"}, {"plan  ", "query"}, {"plan select", "query"}, {"plan select q from t", "query"}, {"plan select * from w", "query"}, {"plan \xff", "query"},
+		{"plan select", "query"}, {"plan select q from t", "query"}, {"plan select * from w", "query"}, {"plan \xff", "query"},
 	})
 }
 
@@ -414,7 +434,7 @@ func TestP12ScriptsAndOthers(t *testing.T) {
 type paper struct{ session }
 
 var lineForms = map[string]*regexp.Regexp{
-	"table": regexp.MustCompile(`^table ([a-z][a-z0-9]{0,9})((?: [^ ]+)+)$`), "view": regexp.MustCompile(`^view ([^ ]+) (.+)$`), "drop": regexp.MustCompile(`^drop ([^ ]+)$`), "add": regexp.MustCompile(`^add ([^ ]+) (.+)$`), "del": regexp.MustCompile(`^del ([^ ]+) (.+)$`), "ask": regexp.MustCompile(`^ask (.+)$`), "plan": regexp.MustCompile(`^plan (.+)$`), "show": regexp.MustCompile(`^show ([^ ]+)$`), "views": regexp.MustCompile(`^views$`), "sync": regexp.MustCompile(`^sync$`), "crash": regexp.MustCompile(`^crash (0|[1-9][0-9]{0,5})$`),
+	"table": regexp.MustCompile(`^table ([a-z][a-z0-9]{0,9}|)((?: [^ ]*)+)$`), "view": regexp.MustCompile(`^view ([^ ]*) (.*)$`), "drop": regexp.MustCompile(`^drop ([^ ]*)$`), "add": regexp.MustCompile(`^add ([^ ]*) (.*)$`), "del": regexp.MustCompile(`^del ([^ ]*) (.*)$`), "ask": regexp.MustCompile(`^ask (.*)$`), "plan": regexp.MustCompile(`^plan (.*)$`), "show": regexp.MustCompile(`^show ([^ ]*)$`), "views": regexp.MustCompile(`^views$`), "sync": regexp.MustCompile(`^sync$`), "crash": regexp.MustCompile(`^crash (0|[1-9][0-9]{0,5})$`),
 }
 
 func (p *paper) step(t *testing.T, s impl.Step) string {
@@ -534,14 +554,28 @@ func deskLine(r *rand.Rand, l ledger) string {
 	}
 	s := pick(r, marketSchemas())
 	lines := []string{
-		"table " + s.Name + " " + strings.Join(s.Cols, " "), "table " + s.Name + " " + strings.Join(s.Cols, " "), "table " + name + " x y", "view " + pick(r, []string{"v", "w", "u", "a0", name}) + " " + marketText(r, l), "view " + pick(r, []string{"v", "w", "u"}) + " " + marketText(r, l), "drop " + pick(r, []string{"v", "w", "u", name}),
+		"table " + s.Name + " " + strings.Join(s.Cols, " "), "table " + s.Name + " " + strings.Join(s.Cols, " "), "table " + name + " x y", "view " + pick(r, []string{"v", "w", "u", "a0", name}) + " " + marketText(r, l), "view " + pick(r, []string{"v", "w", "u"}) + " " + marketText(r, l), "drop " + pick(r, []string{"v", "w", "u", name, name}),
 		"add " + name + " " + values, "add " + name + " " + values, "add " + name + " " + values, "add " + name + " " + values, "del " + name + " " + values, "del " + name + " " + values, "add " + name + " " + anyRowText(r), "ask " + marketText(r, l), "ask " + filteredText(r, l), "plan " + filteredText(r, l), "plan " + marketText(r, l), "show " + name, "show " + pick(r, []string{"v", "w", "u", name}), "views", "sync", "crash " + impl.DecText(r.Intn(300)), "crash 999999",
 	}
 	line := pick(r, lines)
 	if r.Intn(12) == 0 {
 		line = mauled(r, line)
 	}
+	if r.Intn(20) == 0 {
+		line = withAnEmptyPart(r, line)
+	}
 	return strings.ReplaceAll(line, "\n", " ")
+}
+
+// withAnEmptyPart leaves out what stands behind one of a line's blanks, up to the next one or, now and then, all of it.
+func withAnEmptyPart(r *rand.Rand, line string) string {
+	parts := strings.Split(line, " ")
+	at := r.Intn(len(parts))
+	parts[at] = ""
+	if r.Intn(3) == 0 {
+		parts = parts[:at+1]
+	}
+	return strings.Join(parts, " ")
 }
 
 func TestP12WhateverIsWritten(t *testing.T) {
@@ -570,7 +604,7 @@ func TestP12WhateverIsWritten(t *testing.T) {
 			t.FailNow()
 		}
 	}
-	for word, least := range map[string]int{"ok": 1000, "name": 200, "query": 100, "used": 20, "rows": 200, "bad": 10, "what": 300, "-": 100} {
+	for word, least := range map[string]int{"ok": 1000, "name": 200, "query": 100, "used": 20, "rows": 200, "bad": 50, "what": 300, "-": 100} {
 		if told[word] < least {
 			t.Errorf("%s: only %d", word, told[word])
 		}
